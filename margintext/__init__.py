@@ -1,0 +1,1 @@
+"""Comments and bookmarks on tracked text."""
