@@ -1,6 +1,7 @@
 """What the lists that calls are handed may hold."""
 
 LONGEST_NOTE_TEXT = 200
+LONGEST_NAME = 20
 
 
 def is_letter(number):
@@ -17,3 +18,11 @@ def are_signs(numbers):
 
 def is_note_text(numbers):
     return 1 <= len(numbers) <= LONGEST_NOTE_TEXT and all([is_letter(number) for number in numbers])
+
+
+def is_small_letter(number):
+    return 97 <= number <= 122
+
+
+def is_name(numbers):
+    return 1 <= len(numbers) <= LONGEST_NAME and all([is_small_letter(number) for number in numbers])

@@ -1,38 +1,19 @@
-"""Comments: making, answering, solving, dropping and laying them anew (promises 10 to 14)."""
+"""Comments: making, answering, solving, dropping and laying them anew (promises 10 to 15)."""
 
+from margintext.anchors import is_range, lay_comment, lift_comment
 from margintext.checks import is_note_text
 from margintext.sheet import Comment
-from margintext.stretches import count_pieces, count_shown, part_around, shown_signs
+from margintext.stretches import part_around, shown_signs
 
 LONGEST_QUOTE = 40
 
 
-def is_range(sheet, p, q):
-    return 0 <= p < q <= count_shown(sheet.row)
+def quote_of(row):
+    return shown_signs(row)[:LONGEST_QUOTE]
 
 
 def quote_at(sheet, p, q):
-    return shown_signs(part_around(sheet.row, p, q)[1])[:LONGEST_QUOTE]
-
-
-def lay_comment(sheet, c, p, q):
-    parts = part_around(sheet.row, p, q)
-    laid = [stretch.with_comments(stretch.comments + (c,)) for stretch in parts[1]]
-    sheet.row = parts[0] + laid + parts[2]
-
-
-def lift_comment(sheet, c):
-    """Lifts comment c, and answers how many pieces carried it."""
-    lifted = []
-    carried = []
-    for stretch in sheet.row:
-        if c in stretch.comments:
-            carried.append(stretch)
-            lifted.append(stretch.with_comments(tuple([other for other in stretch.comments if other != c])))
-        else:
-            lifted.append(stretch)
-    sheet.row = lifted
-    return count_pieces(carried)
+    return quote_of(part_around(sheet.row, p, q)[1])
 
 
 def make_comment(sheet, p, q, text):
@@ -92,3 +73,30 @@ def reanchor(sheet, c, p, q):
     lay_comment(sheet, c, p, q)
     comment.quote = quote_at(sheet, p, q)
     return [q - p]
+
+
+def is_orphan(sheet, c):
+    return not any([c in stretch.comments for stretch in sheet.row])
+
+
+def find_signs(signs, wanted):
+    """The least place from which on the signs begin with the wanted ones, -1 if there is none."""
+    size = len(wanted)
+    for place in range(len(signs) - size + 1):
+        if signs[place:place + size] == wanted:
+            return place
+    return -1
+
+
+def rescue(sheet, c):
+    if c not in sheet.comments:
+        return [-4]
+    if not is_orphan(sheet, c):
+        return [-7]
+    quote = sheet.comments[c].quote
+    p = find_signs(shown_signs(sheet.row), quote)
+    if p == -1:
+        return [-8]
+    q = p + len(quote)
+    lay_comment(sheet, c, p, q)
+    return [p, q]

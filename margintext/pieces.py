@@ -1,10 +1,13 @@
 """The interface: a list of calls on one new object, and the list of their answers."""
 
+from margintext.bookmarks import forget_gone, goto, make_bookmark, unmark
 from margintext.editing import cut, move, put
-from margintext.notes import drop, make_comment, reanchor, reply, solve
+from margintext.notes import drop, make_comment, reanchor, reply, rescue, solve
 from margintext.review import accept, reject
 from margintext.settings import set_author, set_clock, set_tracking
 from margintext.sheet import Sheet
+from margintext.telling import (tell_at, tell_bookmarks, tell_list, tell_size, tell_spots, tell_state, tell_text,
+                                tell_thread, tell_waiting)
 
 
 class Reader:
@@ -91,6 +94,60 @@ def call_reanchor(sheet, reader):
     return reanchor(sheet, c, p, reader.take_number())
 
 
+def call_rescue(sheet, reader):
+    return rescue(sheet, reader.take_number())
+
+
+def call_bookmark(sheet, reader):
+    p = reader.take_number()
+    q = reader.take_number()
+    return make_bookmark(sheet, p, q, reader.take_list())
+
+
+def call_unmark(sheet, reader):
+    return unmark(sheet, reader.take_list())
+
+
+def call_goto(sheet, reader):
+    return goto(sheet, reader.take_list())
+
+
+def call_state(sheet, reader):
+    return tell_state(sheet, reader.take_number())
+
+
+def call_thread(sheet, reader):
+    return tell_thread(sheet, reader.take_number())
+
+
+def call_spots(sheet, reader):
+    return tell_spots(sheet, reader.take_number())
+
+
+def call_list(sheet, reader):
+    return tell_list(sheet, reader.take_number())
+
+
+def call_at(sheet, reader):
+    return tell_at(sheet, reader.take_number())
+
+
+def call_waiting(sheet, reader):
+    return tell_waiting(sheet, reader.take_number())
+
+
+def call_bookmarks(sheet, reader):
+    return tell_bookmarks(sheet)
+
+
+def call_text(sheet, reader):
+    return tell_text(sheet, reader.take_number())
+
+
+def call_size(sheet, reader):
+    return tell_size(sheet)
+
+
 # A call's number is its index here.
 CALLS = (
     call_author,
@@ -106,6 +163,19 @@ CALLS = (
     call_solve,
     call_drop,
     call_reanchor,
+    call_rescue,
+    call_bookmark,
+    call_unmark,
+    call_goto,
+    call_state,
+    call_thread,
+    call_spots,
+    call_list,
+    call_at,
+    call_waiting,
+    call_bookmarks,
+    call_text,
+    call_size,
 )
 
 
@@ -116,6 +186,7 @@ def answers_on(sheet, calls):
     while not reader.is_done():
         act = CALLS[reader.take_number()]
         answer = act(sheet, reader)
+        forget_gone(sheet)
         told.append(len(answer))
         told.extend(answer)
     return told

@@ -1,6 +1,6 @@
 """Accepting and rejecting changes (promises 8 and 9); c = 0 stands for all changes."""
 
-from margintext.stretches import count_pieces
+from margintext.stretches import count_pieces, without
 
 
 def is_entered_or_all(sheet, c):
@@ -13,10 +13,10 @@ def is_among(changes, c):
     return c in changes
 
 
-def without(changes, c):
+def left_of(changes, c):
     if c == 0:
         return ()
-    return tuple([change for change in changes if change != c])
+    return without(changes, c)
 
 
 def accept(sheet, c):
@@ -24,7 +24,7 @@ def accept(sheet, c):
         return [-4]
     before = count_pieces(sheet.row)
     kept = [stretch for stretch in sheet.row if not is_among(stretch.deletions, c)]
-    sheet.row = [stretch.with_insertions(without(stretch.insertions, c)) for stretch in kept]
+    sheet.row = [stretch.with_insertions(left_of(stretch.insertions, c)) for stretch in kept]
     return [before - count_pieces(kept)]
 
 
@@ -33,5 +33,5 @@ def reject(sheet, c):
         return [-4]
     before = count_pieces(sheet.row)
     kept = [stretch for stretch in sheet.row if not is_among(stretch.insertions, c)]
-    sheet.row = [stretch.with_deletions(without(stretch.deletions, c)) for stretch in kept]
+    sheet.row = [stretch.with_deletions(left_of(stretch.deletions, c)) for stretch in kept]
     return [before - count_pieces(kept)]

@@ -18,7 +18,10 @@ class Comment:
 
 
 class Sheet:
-    """The text, its changes, and the comments that were made and not dropped, by their numbers."""
+    """The text, its changes, the comments that were made and not dropped, and the names of the bookmarks.
+
+    Comments and bookmarks are kept by their numbers, and so in the order in which they were made.
+    """
 
     def __init__(self):
         self.author = 1
@@ -28,3 +31,5 @@ class Sheet:
         self.row = [Stretch([LAST_END], (), (), (), ())]
         self.comments = {}
         self.comments_made = 0
+        self.bookmarks = {}
+        self.bookmarks_made = 0

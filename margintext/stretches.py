@@ -36,6 +36,17 @@ class Stretch:
     def with_comments(self, comments):
         return Stretch(self.signs, self.insertions, self.deletions, comments, self.bookmarks)
 
+    def with_bookmarks(self, bookmarks):
+        return Stretch(self.signs, self.insertions, self.deletions, self.comments, bookmarks)
+
+
+def without(numbers, number):
+    """What a piece bears or carries, without this one; no number is there twice."""
+    if number not in numbers:
+        return numbers
+    index = numbers.index(number)
+    return numbers[:index] + numbers[index + 1:]
+
 
 def count_pieces(row):
     return sum([len(stretch.signs) for stretch in row])
@@ -45,12 +56,15 @@ def count_shown(row):
     return sum([stretch.shown_size() for stretch in row])
 
 
-def shown_signs(row):
+def signs_of(row):
     signs = []
     for stretch in row:
-        if stretch.is_shown():
-            signs.extend(stretch.signs)
+        signs.extend(stretch.signs)
     return signs
+
+
+def shown_signs(row):
+    return signs_of([stretch for stretch in row if stretch.is_shown()])
 
 
 def find_place(row, place):

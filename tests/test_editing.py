@@ -2,11 +2,8 @@
 
 import unittest
 
-from margintext.pieces import answers_on
-from margintext.sheet import Sheet
-from margintext.stretches import Stretch
-from tests.helper import (LEAST, MOST, accept, author, check_refused, comment, cut, last_told, move, put, row_after,
-                          row_of, sheet_after, told_by, track)
+from tests.helper import (LEAST, MOST, accept, author, bookmark, check_refused, comment, cut, last_told, move, put,
+                          row_after, sheet_after, size, text, told_by, track)
 
 # author 1 has "abcdef" in the text without a change, tracking is on, and author 2 writes
 ABCDEF = [put(0, "abcdef"), track(1), author(2)]
@@ -27,6 +24,15 @@ class EnteredTest(unittest.TestCase):
         self.assertEqual(last_told(*before, cut(0, 2)), [0])
         self.assertEqual(last_told(*before, move(0, 2, 5)), [0])
         self.assertEqual(last_told(*before, cut(0, 2), put(0, "w")), [2])
+
+    def test_own_pieces_alone_are_told_to_enter_nothing(self):
+        before = ABCDEF + [put(0, "xyz")]
+        for call in (cut(0, 2), move(0, 2, 5)):
+            self.assertEqual(last_told(*before, call, size())[2], 1)
+        self.assertEqual(last_told(*before, move(0, 2, 5), text(1)), [10, 122, 97, 98, 120, 121, 99, 100, 101, 102, 10])
+
+    def test_a_put_with_tracking_on_always_enters_one(self):
+        self.assertEqual(told_by(track(1), put(0, "x"), put(0, "x"), size())[1:], [[1], [2], [3, 3, 2, 0, 0]])
 
     def test_one_other_piece_is_enough(self):
         before = ABCDEF + [put(0, "xyz")]
@@ -77,10 +83,20 @@ class PutTest(unittest.TestCase):
                          "a*1 b-1*1 x+2*1 c*1 $")
 
     def test_carries_bookmarks_too(self):
-        sheet = Sheet()
-        sheet.row = [Stretch([97], (), (), (), (1, 2)), Stretch([98], (), (), (), (2, 3)), Stretch([10], (), (), (), ())]
-        answers_on(sheet, put(1, "x") + put(3, "y") + put(0, "z"))
-        self.assertEqual(row_of(sheet), "z a#1#2 x#2 b#2#3 y $")
+        before = [put(0, "abc"), bookmark(0, 2, "one"), bookmark(1, 3, "two"), bookmark(0, 3, "all")]
+        self.assertEqual(row_after(*before), "a#all#one b#all#one#two c#all#two $")
+        self.assertEqual(row_after(*before, put(0, "x")), "x a#all#one b#all#one#two c#all#two $")
+        self.assertEqual(row_after(*before, put(1, "xy")), "a#all#one x#all#one y#all#one b#all#one#two c#all#two $")
+        self.assertEqual(row_after(*before, put(2, "x")), "a#all#one b#all#one#two x#all#two c#all#two $")
+        self.assertEqual(row_after(*before, put(3, "x")), "a#all#one b#all#one#two c#all#two x $")
+        self.assertEqual(row_after(*before, track(1), put(1, "x")), "a#all#one x+1#all#one b#all#one#two c#all#two $")
+
+    def test_bookmarks_are_carried_by_shown_neighbours_alone(self):
+        before = [put(0, "abc"), bookmark(0, 2, "one"), bookmark(0, 3, "all"), track(1), cut(1, 2)]
+        self.assertEqual(row_after(*before, put(1, "x")), "a#all#one b-1#all#one x+2#all c#all $")
+
+    def test_carries_no_bookmark_at_place_0(self):
+        self.assertEqual(row_after(bookmark(0, 1, "end"), put(0, "x")), "x $#end")
 
     def test_place_is_refused(self):
         for p in (-1, 7, 8, LEAST, MOST):
@@ -181,10 +197,15 @@ class MoveTest(unittest.TestCase):
         self.assertEqual(row_after(*before, track(0), move(0, 1, 3)), "b c*2 a*1 d*2 $")
 
     def test_carries_bookmarks_too(self):
-        sheet = Sheet()
-        sheet.row = [Stretch([97, 98], (), (), (), (1,)), Stretch([99], (), (), (), (2,)), Stretch([10], (), (), (), ())]
-        answers_on(sheet, track(1) + move(0, 1, 2) + track(0) + move(1, 2, 0))
-        self.assertEqual(row_of(sheet), "a-1#1 a+1#1 b#1 c#2 $")
+        before = [put(0, "abcd"), bookmark(0, 1, "one"), bookmark(2, 4, "two")]
+        self.assertEqual(row_after(*before, move(0, 1, 3)), "b c#two a#one d#two $")
+        self.assertEqual(row_after(*before, move(1, 2, 3)), "a#one c#two b d#two $")
+        self.assertEqual(row_after(*before, track(1), move(0, 1, 3)), "a-1#one b c#two a+1#one d#two $")
+        self.assertEqual(row_after(*before, track(1), move(2, 3, 0)), "c+1#two a#one b c-1#two d#two $")
+
+    def test_the_copy_keeps_its_bookmark_when_the_piece_goes(self):
+        before = [put(0, "abcd"), bookmark(0, 1, "one"), track(1), move(0, 1, 3)]
+        self.assertEqual(row_after(*before, accept(1)), "b c a#one d $")
 
     def test_places_are_refused(self):
         for p, q, r in ((-1, 1, 3), (2, 2, 4), (3, 2, 5), (0, 7, 3), (6, 7, 0), (0, 1, -1), (0, 1, 7),

@@ -5,8 +5,12 @@ import unittest
 
 from margintext.pieces import answers, answers_on
 from margintext.sheet import Sheet
-from tests.helper import (LEAST, MOST, Model, accept, all_of, author, clock, comment, cut, drop, joined, move, parted,
-                          put, reanchor, reject, reply, solve, track)
+from tests.helper import (LEAST, LOOKS, MOST, Model, accept, all_of, at, author, bookmark, bookmarks, clock, codes, comment,
+                          cut, drop, goto, joined, list_of, move, parted, put, reanchor, reject, reply, rescue, size,
+                          solve, spots, state, text, thread, track, unmark, waiting)
+
+NAMES = ["a", "b", "ab", "abcdefghijklmnopqrst"]
+NO_NAMES = ["", "A", "abcdefghijklmnopqrstu", "a b"]
 
 
 class Maker:
@@ -25,15 +29,17 @@ class Maker:
         return self.number(-1 if self.random.random() < 0.05 else 0, len(self.model.shown()))
 
     def places(self):
-        both = [self.place(), self.place()]
-        return both if self.random.random() < 0.1 else sorted(both)
+        if self.random.random() < 0.05:
+            return [self.place(), self.place()]
+        p = self.random.randrange(len(self.model.shown()))
+        return [p, p + self.random.randint(1, 4)]
 
     def signs(self):
-        signs = [self.random.choice([10, 32, 126] + list(range(97, 101))) for turn in range(self.random.randint(1, 6))]
+        signs = [self.random.choice([10, 97, 98]) for turn in range(self.random.randint(1, 6))]
         roll = self.random.random()
         if roll < 0.03:
             return []
-        return signs + [self.random.choice([9, 31, 127, LEAST, MOST])] if roll < 0.06 else signs
+        return signs + [self.random.choice([9, 31, 32, 126, 127, LEAST, MOST])] if roll < 0.1 else signs
 
     def text(self):
         roll = self.random.random()
@@ -45,71 +51,109 @@ class Maker:
         return self.number(0, 2) if self.random.random() < 0.1 else self.random.randint(0, 1)
 
     def note(self):
+        if self.model.comments and self.random.random() < 0.9:
+            return self.random.choice(list(self.model.comments))
         return self.number(0, self.model.comments_made + 1)
 
     def change(self):
-        return self.number(-1 if self.random.random() < 0.1 else 0, len(self.model.change_authors) + 1)
+        if self.model.change_authors and self.random.random() < 0.9:
+            return self.random.randint(1, len(self.model.change_authors))
+        return self.number(-1, len(self.model.change_authors) + 1)
+
+    def name(self):
+        return codes(self.random.choice(NO_NAMES if self.random.random() < 0.05 else NAMES))
 
     def call(self):
-        kind = self.random.choice(["author", "clock", "track", "put", "put", "put", "cut", "cut", "move", "move",
-                                   "move", "accept", "reject", "comment", "comment", "reply", "solve", "drop",
-                                   "reanchor"])
-        if kind == "author":
-            return author(self.number(1, 3))
-        if kind == "clock":
-            return clock(self.model.time + self.random.randint(-1, 2))
-        if kind == "track":
-            return track(1 if self.random.random() < 0.6 else self.on())
-        if kind == "put":
-            return put(self.place(), self.signs())
-        if kind == "cut":
-            return cut(*self.places())
-        if kind == "move":
-            return move(*self.places(), self.place())
-        if kind == "accept":
-            return accept(self.change())
-        if kind == "reject":
-            return reject(self.change())
-        if kind == "comment":
-            return comment(*self.places(), self.text())
-        if kind == "reply":
-            return reply(self.note(), self.text())
-        if kind == "solve":
-            return solve(self.note(), self.on())
-        if kind == "drop":
-            return drop(self.note())
-        return reanchor(self.note(), *self.places())
+        if len(self.model.row) < 4:
+            return put(0, "abab\nbbaba")
+        roll = self.random.random()
+        if roll < 0.45:
+            return self.change_text()
+        return self.write() if roll < 0.75 else self.look()
+
+    def change_text(self):
+        makes = [lambda: author(self.number(1, 3)),
+                 lambda: track(1 if self.random.random() < 0.6 else self.on()),
+                 lambda: put(self.place(), self.signs()),
+                 lambda: put(self.place(), self.signs()),
+                 lambda: cut(*self.places()),
+                 lambda: cut(*self.places()),
+                 lambda: move(*self.places(), self.place()),
+                 lambda: move(*self.places(), self.place()),
+                 lambda: accept(self.change()),
+                 lambda: reject(self.change())]
+        return self.random.choice(makes)()
+
+    def write(self):
+        makes = [lambda: clock(self.model.time + self.random.randint(-1, 2)),
+                 lambda: comment(*self.places(), self.text()),
+                 lambda: comment(*self.places(), self.text()),
+                 lambda: comment(*self.places(), self.text()),
+                 lambda: reply(self.note(), self.text()),
+                 lambda: reply(self.note(), self.text()),
+                 lambda: solve(self.note(), self.on()),
+                 lambda: drop(self.note()),
+                 lambda: reanchor(self.note(), *self.places()),
+                 lambda: rescue(self.orphan()),
+                 lambda: rescue(self.orphan()),
+                 lambda: bookmark(*self.places(), self.name()),
+                 lambda: bookmark(*self.places(), self.name()),
+                 lambda: bookmark(*self.places(), self.name()),
+                 lambda: unmark(self.name())]
+        return self.random.choice(makes)()
+
+    def look(self):
+        makes = [lambda: goto(self.name()),
+                 lambda: state(self.note()),
+                 lambda: thread(self.note()),
+                 lambda: spots(self.note()),
+                 lambda: list_of(self.number(-1, 4)),
+                 lambda: at(self.place()),
+                 lambda: waiting(self.number(0, 4)),
+                 lambda: bookmarks(),
+                 lambda: text(self.number(-1, 3)),
+                 lambda: size()]
+        return self.random.choice(makes)()
+
+    def orphan(self):
+        orphans = [c for c in self.model.comments if not self.model.carriers(c)]
+        return self.random.choice(orphans) if orphans else self.note()
 
 
 class ModelTest(unittest.TestCase):
-    def check_line(self, seed, size):
+    def check_line(self, seed, count):
+        """Answers the calls of a line, and what each was answered."""
         maker = Maker(seed)
         sheet = Sheet()
         calls = []
         told = []
-        for turn in range(size):
+        for turn in range(count):
             call = maker.call()
             before = all_of(sheet)
             answer = maker.model.do(call)
             calls.append(call)
-            told.append([answer])
-            self.assertEqual(parted(answers_on(sheet, call)), [[answer]], (seed, calls))
+            told.append(answer)
+            self.assertEqual(parted(answers_on(sheet, call)), [answer], (seed, calls))
             self.assertEqual(all_of(sheet), maker.model.all_of(), (seed, calls))
-            if answer < 0:
+            if answer[0] < 0 or call[0] > 15:
                 self.assertEqual(all_of(sheet), before, (seed, calls))
         self.assertEqual(parted(answers(joined(calls))), told)
-        return [answer for one in told for answer in one]
+        for look in LOOKS + [at(p) for p in range(len(maker.model.shown()))] + [goto(name) for name in NAMES]:
+            self.assertEqual(parted(answers_on(sheet, look)), [maker.model.do(look)], (seed, calls, look))
+        return list(zip(calls, told))
 
     def test_short_lines(self):
         for seed in range(400):
-            self.check_line(seed, 30)
+            self.check_line(seed, 60)
 
     def test_long_lines(self):
         seen = []
-        for seed in range(1000, 1010):
-            seen += self.check_line(seed, 250)
-        for number in (-1, -2, -3, -4, -5, -6):
-            self.assertIn(number, seen)
+        for seed in range(1000, 1015):
+            seen += self.check_line(seed, 400)
+        for number in range(-8, 0):
+            self.assertIn(number, [answer[0] for call, answer in seen])
+        for number in range(26):
+            self.assertTrue([answer for call, answer in seen if call[0] == number and answer[0] >= 0], number)
 
 
 if __name__ == "__main__":

@@ -1,9 +1,10 @@
-"""Promises 10 to 14: comment, reply, solve, drop, reanchor."""
+"""Promises 10 to 15: comment, reply, solve, drop, reanchor, rescue."""
 
 import unittest
 
-from tests.helper import (LEAST, MOST, accept, author, check_refused, clock, codes, comment, cut, drop, last_told, put,
-                          reanchor, reject, reply, row_after, sheet_after, solve, told_by, track)
+from tests.helper import (LEAST, MOST, accept, author, check_refused, clock, codes, comment, cut, drop, last_told, list_of,
+                          move, put, reanchor, reject, reply, rescue, row_after, sheet_after, solve, spots, state,
+                          thread, told_by, track)
 
 ABCDEF = [put(0, "abcdef")]
 NO_NOTE_TEXTS = ([], [32] * 201, [32] * 2000, [31], [127], [10], [97, 10], [LEAST], [MOST], [97] * 199 + [127])
@@ -216,6 +217,111 @@ class ReanchorTest(unittest.TestCase):
         before = ABCDEF + [comment(0, 2), author(2)]
         check_refused(self, before, reanchor(2, 0, 8), -4)
         check_refused(self, before, reanchor(1, 0, 8), -5)
+
+
+class RescueTest(unittest.TestCase):
+    # "bc" is commented on and then goes for good.
+    ORPHAN = ABCDEF + [comment(1, 3), cut(1, 3)]
+
+    def test_is_laid_where_its_quote_stands(self):
+        calls = self.ORPHAN + [put(2, "xbcy"), rescue(1)]
+        self.assertEqual(last_told(*calls), [3, 5])
+        self.assertEqual(row_after(*calls), "a d x b*1 c*1 y e f $")
+        self.assertEqual(last_told(*calls, state(1)), [2, 2, 2, 1, 0])
+
+    def test_at_place_0(self):
+        self.assertEqual(last_told(*self.ORPHAN, put(0, "bc"), rescue(1)), [0, 2])
+
+    def test_the_least_of_several_places(self):
+        self.assertEqual(last_told(*self.ORPHAN, put(4, "bc"), put(1, "bbcc"), rescue(1)), [2, 4])
+        self.assertEqual(row_after(*self.ORPHAN, put(4, "bc"), put(1, "bbcc"), rescue(1)),
+                         "a b b*1 c*1 c d e f b c $")
+
+    def test_places_that_overlap(self):
+        before = [put(0, "xaabx"), comment(1, 4), cut(1, 4)]
+        self.assertEqual(last_told(*before, put(1, "aaaab"), rescue(1)), [3, 6])
+        before = [put(0, "xababx"), comment(1, 5), cut(1, 5)]
+        self.assertEqual(last_told(*before, put(1, "aababab"), rescue(1)), [2, 6])
+
+    def test_no_place(self):
+        check_refused(self, self.ORPHAN, rescue(1), -8)
+        check_refused(self, self.ORPHAN + [put(0, "b")], rescue(1), -8)
+        check_refused(self, self.ORPHAN + [put(4, "b")], rescue(1), -8)
+        check_refused(self, self.ORPHAN + [put(1, "cb")], rescue(1), -8)
+
+    def test_a_text_shorter_than_the_quote(self):
+        check_refused(self, ABCDEF + [comment(0, 6), cut(0, 6)], rescue(1), -8)
+
+    def test_with_the_last_end_in_it(self):
+        # The last end itself never goes, so such a quote stands on another 10 first.
+        before = [put(0, "ab\nc"), comment(1, 3), cut(0, 4)]
+        self.assertEqual(last_told(*before, put(0, "xb"), rescue(1)), [1, 3])
+        self.assertEqual(row_after(*before, put(0, "xb"), rescue(1)), "x b*1 $*1")
+        alone = [put(0, "\nab"), comment(0, 1), cut(0, 1)]
+        self.assertEqual(last_told(*alone, rescue(1)), [2, 3])
+        self.assertEqual(row_after(*alone, rescue(1)), "a b $*1")
+
+    def test_the_whole_text(self):
+        before = [put(0, "ab\nc"), comment(0, 3), cut(0, 4), put(0, "ab")]
+        self.assertEqual(last_told(*before, rescue(1)), [0, 3])
+
+    def test_a_quote_of_40_signs(self):
+        signs = list(range(32, 92))
+        for end in (40, 41, 60):
+            before = [put(0, signs), comment(0, end), cut(0, 60)]
+            self.assertEqual(last_told(*before, put(0, [97] + signs), rescue(1)), [1, 41])
+            self.assertEqual(last_told(*before, put(0, [97] + signs), rescue(1), spots(1)), [1, 1, 41])
+            self.assertEqual(last_told(*before, put(0, signs[:40]), rescue(1)), [0, 40])
+            check_refused(self, before + [put(0, signs[:39] + [97])], rescue(1), -8)
+            check_refused(self, before + [put(0, signs[1:])], rescue(1), -8)
+
+    def test_looks_at_shown_pieces_alone(self):
+        before = self.ORPHAN + [put(1, "bxc"), track(1)]
+        calls = before + [cut(2, 3), rescue(1)]
+        self.assertEqual(last_told(*calls), [1, 3])
+        self.assertEqual(row_after(*calls), "a b*1 x-1*1 c*1 d e f $")
+        self.assertEqual(last_told(*calls, state(1)), [2, 2, 3, 1, 0])
+        check_refused(self, self.ORPHAN + [put(1, "bc"), track(1), cut(1, 2)], rescue(1), -8)
+
+    def test_is_not_laid_beside_its_ends(self):
+        calls = self.ORPHAN + [put(1, "xbcx"), track(1), cut(1, 2), cut(3, 4), rescue(1)]
+        self.assertEqual(row_after(*calls), "a x-1 b*1 c*1 x-2 d e f $")
+
+    def test_keeps_all_else(self):
+        before = ABCDEF + [clock(3), comment(1, 3), reply(1), solve(1, 1), cut(1, 3), put(0, "bc"), clock(5)]
+        self.assertEqual(last_told(*before, rescue(1), thread(1)), last_told(*before, thread(1)))
+        self.assertEqual(last_told(*before, rescue(1), state(1)), [2, 2, 2, 1, 1])
+
+    def test_by_any_author(self):
+        self.assertEqual(last_told(*self.ORPHAN, put(0, "bc"), author(2), rescue(1)), [0, 2])
+
+    def test_of_the_one_that_is_asked_for(self):
+        before = ABCDEF + [comment(0, 1), comment(1, 3), comment(1, 2), cut(1, 3), put(0, "bc"), rescue(2)]
+        self.assertEqual(row_after(*before), "b*2 c*2 a*1 d e f $")
+        self.assertEqual(last_told(*before, list_of(3)), [1, 3])
+
+    def test_a_live_one_is_refused(self):
+        check_refused(self, ABCDEF + [comment(1, 3)], rescue(1), -7)
+        check_refused(self, ABCDEF + [comment(1, 3), cut(1, 2), put(0, "bc")], rescue(1), -7)
+        check_refused(self, self.ORPHAN + [put(0, "bc"), rescue(1)], rescue(1), -7)
+
+    def test_a_hidden_one_is_refused(self):
+        hidden = ABCDEF + [comment(1, 3), track(1), cut(1, 3)]
+        check_refused(self, hidden + [put(0, "bc")], rescue(1), -7)
+        self.assertEqual(last_told(*hidden, put(0, "bc"), accept(1), rescue(1)), [0, 2])
+
+    def test_an_orphan_by_reject(self):
+        before = ABCDEF + [track(1), put(0, "bc"), comment(0, 2), reject(1)]
+        self.assertEqual(last_told(*before, rescue(1)), [1, 3])
+
+    def test_unknown_comment_is_refused(self):
+        for c in (0, -1, 2, LEAST, MOST):
+            check_refused(self, self.ORPHAN, rescue(c), -4)
+        check_refused(self, self.ORPHAN + [drop(1)], rescue(1), -4)
+
+    def test_order_of_refusals(self):
+        # It is live, and its quote stands nowhere.
+        check_refused(self, ABCDEF + [comment(1, 3), move(1, 2, 5)], rescue(1), -7)
 
 
 if __name__ == "__main__":

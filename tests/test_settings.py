@@ -2,8 +2,8 @@
 
 import unittest
 
-from tests.helper import (LEAST, MOST, author, check_refused, clock, comment, cut, last_told, put, reply, row_after,
-                          sheet_after, told_by, track)
+from tests.helper import (LEAST, MOST, at, author, bookmarks, check_refused, clock, comment, cut, last_told, list_of,
+                          put, reply, row_after, sheet_after, size, text, told_by, track)
 
 
 class NewSheetTest(unittest.TestCase):
@@ -12,6 +12,8 @@ class NewSheetTest(unittest.TestCase):
         self.assertEqual(row_after(), "$")
         self.assertEqual((sheet.author, sheet.time, sheet.tracking), (1, 0, False))
         self.assertEqual((sheet.change_authors, sheet.comments, sheet.comments_made), ([], {}, 0))
+        self.assertEqual(told_by(size(), text(0), text(1), text(2), list_of(0), bookmarks(), at(0)),
+                         [[1, 1, 0, 0, 0], [1, 10, 0, 0, 0, 0], [1, 10], [1, 10], [0], [0], [0, 0]])
 
 
 class AuthorTest(unittest.TestCase):
